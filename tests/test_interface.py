@@ -1,0 +1,58 @@
+"""Promise [1] and the document's section on the interface, as far as it has landed."""
+
+import importlib
+import inspect
+import unittest
+
+FUNCTIONS = {
+    "programs": {"places": ["program", "word"], "step_at": ["program", "place"]},
+    "runs": {
+        "is_run": ["program", "value"], "next_events": ["program", "run"],
+        "stack_of": ["program", "run"], "walk_of": ["program", "run"],
+    },
+}
+CLASSES = {
+    "programs": {
+        "Program": {
+            "__init__": ["self", "rights", "owners", "functions"],
+            "rights": ["self"], "owners": ["self"], "functions": ["self"], "__eq__": ["self", "other"],
+        },
+    },
+    "errors": {
+        "RightsError": {},
+        "InvalidNumber": {"__init__": ["self", "value"]}, "InvalidList": {"__init__": ["self", "value"]},
+        "InvalidItem": {"__init__": ["self", "value"]}, "InvalidWord": {"__init__": ["self", "value"]},
+        "InvalidProgram": {"__init__": ["self", "value"]}, "InvalidPlace": {"__init__": ["self", "value"]},
+        "InvalidRun": {"__init__": ["self", "value"]}, "InvalidText": {"__init__": ["self", "value"]},
+        "InvalidName": {"__init__": ["self", "name"]}, "TakenName": {"__init__": ["self", "name"]},
+        "UnknownName": {"__init__": ["self", "name"]}, "NothingToUndo": {},
+    },
+}
+
+
+def module(name):
+    return importlib.import_module("callersrights." + name)
+
+
+class TestInterface(unittest.TestCase):
+    def test_functions(self):
+        for file, functions in FUNCTIONS.items():
+            for name, parameters in functions.items():
+                made = getattr(module(file), name)
+                self.assertTrue(inspect.isfunction(made))
+                self.assertEqual(made.__module__, "callersrights." + file)
+                self.assertEqual(list(inspect.signature(made).parameters), parameters)
+
+    def test_classes(self):
+        for file, classes in CLASSES.items():
+            for name, methods in classes.items():
+                made = getattr(module(file), name)
+                self.assertTrue(inspect.isclass(made))
+                self.assertEqual(made.__module__, "callersrights." + file)
+                for method, parameters in methods.items():
+                    self.assertIn(method, vars(made))
+                    self.assertEqual(list(inspect.signature(vars(made)[method]).parameters), parameters)
+
+
+if __name__ == "__main__":
+    unittest.main()
