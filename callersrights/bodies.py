@@ -99,6 +99,18 @@ def is_marking(step):
     return step[0] == "block" and step[1]
 
 
+def is_in_mark(body, path):
+    """Whether the step of a body at a path stands in a marked block of it."""
+    step = body[path[0]]
+    rest = path[1:]
+    if len(rest) == 0:
+        return False
+    if is_marking(step):
+        return True
+    turn, inner = inner_body(step, rest)
+    return is_in_mark(inner, rest[len(turn):])
+
+
 def paths_of(body, word, base=()):
     """The paths of all steps of a body with a word, in order, each behind a base."""
     found = []

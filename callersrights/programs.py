@@ -2,7 +2,7 @@
 
 from callersrights.bodies import WORDS, copy_body, copy_step, is_body, is_name, is_spot, is_tuple_of
 from callersrights.bodies import paths_of, step_on
-from callersrights.errors import InvalidItem, InvalidList, InvalidPlace, InvalidProgram, InvalidWord
+from callersrights.errors import InvalidItem, InvalidList, InvalidPlace, InvalidProgram, InvalidWord, UnknownName
 
 MOST_RIGHTS = 5
 MOST_OWNERS = 5
@@ -124,6 +124,30 @@ def kept_step(program, value):
         if name == wanted:
             return step_on(body, path)
     return None
+
+
+def need_place(program, value, words):
+    """Refuse what is no place of a step with one of some words."""
+    step = kept_step(program, value)
+    if step is None or step[0] not in words:
+        raise InvalidPlace(value)
+
+
+def need_known(value, names):
+    """Refuse what is none of some names."""
+    if value not in names:
+        raise UnknownName(value)
+
+
+def is_ordered(value, rights):
+    """Whether a value is a list of some of the rights, each once and in their order."""
+    return isinstance(value, list) and value == [right for right in rights if right in value]
+
+
+def need_ordered(value, rights):
+    """Refuse what is no such list."""
+    if not is_ordered(value, rights):
+        raise InvalidList(value)
 
 
 def places(program, word):

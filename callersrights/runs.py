@@ -28,7 +28,7 @@ class Stack:
 
     def __init__(self, program):
         self.flow = Flow(program)
-        self.frames = [Frame(self.flow.first, self.flow.all_rights)]
+        self.frames = [Frame(self.flow.first, self.flow.first_handed())]
         self.failed = False
 
     def is_over(self):
@@ -40,15 +40,15 @@ class Stack:
         frame = self.frames[-1]
         return self.flow.moves(frame.name, frame.path)
 
-    def standing(self, marked):
+    def standing_at(self, path):
         """The standing at a step of the newest frame."""
         frame = self.frames[-1]
-        return self.flow.standing(frame.name, frame.handed, marked)
+        return self.flow.standing_at(frame.name, path, frame.handed)
 
     def event_at(self, path, step):
         """The event at one of the steps that can come next."""
-        word, target, marked = step
-        if word == "check" and target not in self.standing(marked):
+        word, target = step
+        if word == "check" and not self.flow.passes(self.standing_at(path), target):
             word = "fail"
         return (word, (self.frames[-1].name, path))
 
@@ -73,7 +73,7 @@ class Stack:
         steps = self.moves().steps
         if path not in steps or self.event_at(path, steps[path]) != event:
             return False
-        self.take_step(word, path, steps[path])
+        self.take_step(word, path, steps[path][1])
         return True
 
     def take_end(self, name):
@@ -83,17 +83,16 @@ class Stack:
         self.frames.pop()
         return True
 
-    def take_step(self, word, path, step):
-        """Go on by the event with a word at a step."""
-        _, target, marked = step
+    def take_step(self, word, path, target):
+        """Go on by the event with a word at a step with the name of a function or a right."""
         frame = self.frames[-1]
-        if word == "tail":
-            self.frames[-1] = Frame(target, frame.handed)
-            return
         frame.path = path
-        frame.marked = marked
+        frame.marked = self.flow.is_marked(frame.name, path)
+        handed = self.flow.handed_on(word, frame.handed, self.standing_at(path))
+        if word == "tail":
+            self.frames[-1] = Frame(target, handed)
         if word == "call":
-            self.frames.append(Frame(target, self.standing(marked)))
+            self.frames.append(Frame(target, handed))
         if word == "fail":
             self.failed = True
 

@@ -12,6 +12,7 @@ class Reference:
         self.owner_of = {name: owner for name, owner, _ in program.functions()}
         self.rights_of = dict(program.owners())
         self.first = program.functions()[0][0]
+        self.rights = program.rights()
 
     def body_at(self, name, prefix):
         """The body whose steps have the paths prefix + (number,)."""
@@ -125,6 +126,87 @@ class Reference:
     def next_events(self, stacks):
         return sorted({event for stack in stacks if stack for event, _ in self.events_from(stack)})
 
+    def standing(self, stack, path):
+        """The standing at a path of the newest frame."""
+        owners = [self.owner_of[name] for name in self.walk(stack, path)]
+        return [right for right in self.rights if all(right in self.rights_of[owner] for owner in owners)]
+
+    def stack_ahead(self, run):
+        """The stack ahead of the last event of a run."""
+        stacks = self.start()
+        for event in run[:-1]:
+            stacks = self.go(stacks, event)
+        (stack,) = {stack for stack in stacks if run[-1] in [told for told, _ in self.events_from(stack)]}
+        return stack
+
     def names(self, stacks):
         (names,) = {tuple(name for name, _ in stack) for stack in stacks}
         return list(names)
+
+
+class Explored:
+    """What the runs of a program come to, one event after another, for all runs of few events.
+
+    `found` has tuples (run, stack ahead of its last event, shadow ahead of it), shorter runs ahead of longer ones;
+    of runs that leave the same stack and shadow behind only the first one goes on.
+    A shadow is what a test keeps beside the stack; `follow` tells what an event makes of it.
+    All that runs of up to `depth` events come to is there.
+    """
+
+    def __init__(self, program, depth, most=1500, shadow=None, follow=None):
+        self.reference = Reference(program)
+        self.follow = follow
+        self.found = []
+        self.known = set()
+        self.depth = 0
+        level = [([], stack, shadow) for stack in self.reference.start()]
+        while level and self.depth < depth and len(self.known) < most:
+            level = [state for before in level for state in self.behind(*before)]
+            self.depth += 1
+        if not level:
+            self.depth = 10 ** 9
+
+    def behind(self, run, stack, shadow):
+        further = []
+        for event, behind in self.reference.events_from(stack):
+            self.found.append((run + [event], stack, shadow))
+            on = self.follow(shadow, event) if self.follow else None
+            if behind and (behind, on) not in self.known:
+                self.known.add((behind, on))
+                further.append((run + [event], behind, on))
+        return further
+
+    def shortest(self, wanted):
+        """The number of events of a shortest run found that is wanted, or None."""
+        for run, stack, shadow in self.found:
+            if wanted(run, stack, shadow):
+                return len(run)
+        return None
+
+    def ends(self):
+        """The number of events of a shortest run found behind which the stack is empty, or None."""
+        return self.shortest(lambda run, stack, shadow: len(stack) == 1 and run[-1][0] == "end")
+
+
+def first_difference(program, other, depth, most=1500):
+    """The fewest events of a run of just one of two programs, None if there is none, and "far" if it is not found."""
+    one, two = Reference(program), Reference(other)
+    (first,), (second,) = one.start(), two.start()
+    level, known = [(first, second)], set()
+    for events in range(1, depth + 1):
+        further = []
+        for left, right in level:
+            here, there = dict(one.events_from(left)), dict(two.events_from(right))
+            if sorted(here) != sorted(there):
+                return events
+            for event in here:
+                pair = (here[event], there[event])
+                if pair[0] and pair not in known:
+                    known.add(pair)
+                    further.append(pair)
+        level = further
+        if not level:
+            return None
+        if len(known) > most:
+            return "far"
+    return "far"

@@ -1,8 +1,9 @@
 """What several tests share: programs, values of every kind, and ways to compare."""
 
 import random
+import unittest
 
-from callersrights.errors import InvalidItem, RightsError
+from callersrights.errors import InvalidItem, RightsError, UnknownName
 from callersrights.programs import Program
 
 STORE_FUNCTIONS = [
@@ -141,3 +142,117 @@ def random_program(seed):
         body = random_body(chance, names, rights, [14], 4, False)
         functions.append((name, chance.choice(owners)[0], body))
     return Program(rights, owners, functions)
+
+
+def dense_body(chance, names, rights, room, depth, marked):
+    """A body that uses up its room, mostly with calls that need not be made and checks that can be passed over."""
+    body = []
+    while room[0] > 0 and len(body) < 4:
+        room[0] -= 1
+        word = chance.choice(["call", "call", "tail", "check", "either", "either", "loop", "block", "block"])
+        if word == "tail" and (marked or room[0] > 3):
+            word = "call"
+        if depth <= 1 and word in ("either", "loop", "block"):
+            word = "check"
+        if word in ("call", "tail"):
+            body.append((word, chance.choice(names)))
+        elif word == "check":
+            body.append((word, chance.choice(rights)))
+        elif word == "either":
+            first = dense_body(chance, names, rights, room, depth - 1, marked)
+            second = dense_body(chance, names, rights, room, depth - 1, marked) if chance.random() < 0.4 else []
+            body.append((word, first, second))
+        elif word == "loop":
+            body.append((word, dense_body(chance, names, rights, room, depth - 1, marked)))
+        else:
+            mark = chance.random() < 0.6
+            body.append((word, mark, dense_body(chance, names, rights, room, depth - 1, marked or mark)))
+    return body
+
+
+def dense_program(seed, rights=3, owners=3, functions=4, steps=9):
+    """A program whose runs reach many places with many standings."""
+    chance = random.Random(seed)
+    all_rights = ["read", "write", "a", "z", "zz"][:rights]
+    owned = []
+    for name in ["app", "lib", "sys", "x", "y"][:owners]:
+        some = [right for right in all_rights if chance.random() < 0.8]
+        owned.append((name, chance.sample(some, len(some))))
+    names = ["main", "f", "g", "h", "i", "j"][:functions]
+    made = []
+    for name in names:
+        body = dense_body(chance, names, all_rights, [steps], 4, False)
+        made.append((name, chance.choice(owned)[0], body))
+    return Program(all_rights, owned, made)
+
+
+def open_program(seed, rights=2, owners=3, functions=4):
+    """A program each of whose steps can be passed over, so that its frames get almost everywhere."""
+    chance = random.Random(seed)
+    all_rights = ["read", "write", "a", "z", "zz"][:rights]
+    owned = []
+    for name in ["app", "lib", "sys", "x", "y"][:owners]:
+        owned.append((name, [right for right in all_rights if chance.random() < 0.6]))
+    names = ["main", "f", "g", "h", "i", "j"][:functions]
+    made = []
+    for name in names:
+        body = []
+        for _ in range(chance.randint(1, 4)):
+            word = chance.choice(["call", "tail", "tail", "check", "check", "marked"])
+            other = chance.choice(names)
+            step = ("check", chance.choice(all_rights)) if word == "check" else (word, other)
+            if word == "marked":
+                step = ("block", True, [chance.choice([("call", other), ("check", chance.choice(all_rights))])])
+            body.append(("either", [step], []) if chance.random() < 0.6 else ("loop", [step]))
+        made.append((name, chance.choice(owned)[0], body))
+    return Program(all_rights, owned, made)
+
+
+def some_program(seed):
+    """A program of one of the three kinds."""
+    return (random_program, dense_program, open_program)[seed % 3](seed)
+
+
+def choices(rights):
+    """All lists of some of the rights, each once and in their order."""
+    found = [[]]
+    for right in rights:
+        found += [some + [right] for some in found]
+    return [[right for right in rights if right in some] for some in found]
+
+
+def books(program):
+    """All books of a program."""
+    found = [[]]
+    for name, _ in program.owners():
+        found = [book + [(name, list(some))] for book in found for some in choices(program.rights())]
+    return found
+
+
+def lacks(book, owner, right):
+    """A book with one right less."""
+    return [(name, [other for other in rights if (name, other) != (owner, right)]) for name, rights in book]
+
+
+def size(run):
+    """The number of events of a run, or None if there is none."""
+    return None if run is None else len(run)
+
+
+class Case(unittest.TestCase):
+    """A test that knows how the package refuses."""
+
+    def refuses(self, error, wrong, called, *arguments):
+        """The very argument or item is in the field of just this error."""
+        with self.assertRaises(error) as caught:
+            called(*arguments)
+        self.assertIs(type(caught.exception), error)
+        self.assertIs(caught.exception.name if error is UnknownName else caught.exception.value, wrong)
+
+    def beside_brute(self, run, brute, depth):
+        """A run, or None, is as long as a shortest one found by brute force, which looks at runs of up to `depth`."""
+        if brute is not None and brute <= depth:
+            self.assertIsNotNone(run)
+            self.assertEqual(len(run), brute)
+        elif run is not None:
+            self.assertGreater(len(run), depth)

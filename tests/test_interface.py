@@ -10,6 +10,18 @@ FUNCTIONS = {
         "is_run": ["program", "value"], "next_events": ["program", "run"],
         "stack_of": ["program", "run"], "walk_of": ["program", "run"],
     },
+    "standings": {
+        "held": ["program", "place"], "run_to": ["program", "place", "standing"],
+        "can_end": ["program", "name", "handed"], "table": ["program"], "is_table": ["program", "value"],
+    },
+    "checks": {"outcome": ["program", "place"], "first_fail": ["program"], "last_end": ["program"]},
+    "books": {
+        "book_of": ["program"], "with_book": ["program", "book"], "least_book": ["program"],
+        "met_by": ["program", "owner", "right"], "idle_rights": ["program"], "needless": ["program", "place"],
+    },
+    "marks": {
+        "first_unlike": ["program", "other"], "spare_marks": ["program"], "forgotten": ["program", "place"],
+    },
 }
 CLASSES = {
     "programs": {

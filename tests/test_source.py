@@ -1,10 +1,26 @@
-"""The package's files keep to those rules of the language document that are plain to see: L1, L2, L10, L14, L16."""
+"""The package's files keep to those rules of the language document that are plain to see."""
 
 import ast
+import builtins
 import os
 import unittest
 
 ROOT = os.path.join(os.path.dirname(os.path.abspath(__file__)), "..", "callersrights")
+
+# L8, L22 and L25, without what this package has no need of.
+BUILTINS = [
+    "len", "range", "enumerate", "zip", "min", "max", "sum", "abs", "sorted", "reversed", "int", "str", "bool", "list",
+    "tuple", "dict", "set", "isinstance", "repr", "any", "all", "ValueError",
+]
+METHODS = [
+    "append", "clear", "copy", "count", "endswith", "extend", "find", "get", "index", "insert", "items", "join", "keys",
+    "pop", "remove", "replace", "reverse", "setdefault", "split", "startswith", "strip", "update", "values",
+]
+DOUBLE = ["__init__", "__eq__", "__len__", "__iter__", "__contains__"]
+STATEMENTS = (
+    ast.Global, ast.Try, ast.With, ast.AsyncFunctionDef, ast.Delete, ast.GeneratorExp, ast.Yield, ast.YieldFrom,
+    ast.AnnAssign, ast.Set, ast.JoinedStr, ast.Starred, ast.NamedExpr, ast.Div, ast.Mod, ast.Pow, ast.Match,
+)
 
 
 def sources():
@@ -51,6 +67,38 @@ class TestSource(unittest.TestCase):
         for name, text in sources():
             for module in imported(text):
                 self.assertIn(module, allowed, name)
+
+    def test_builtins_and_names(self):
+        for name, text in sources():
+            nodes = list(ast.walk(ast.parse(text)))
+            made = [node.id for node in nodes if isinstance(node, ast.Name) and not isinstance(node.ctx, ast.Load)]
+            made += [node.arg for node in nodes if isinstance(node, ast.arg)]
+            made += [node.name for node in nodes if isinstance(node, (ast.FunctionDef, ast.ClassDef))]
+            for word in made:
+                self.assertTrue(word in DOUBLE or not word.startswith("__"), (name, word))
+                self.assertTrue(word in DOUBLE or not hasattr(builtins, word), (name, word))
+            for node in nodes:
+                if isinstance(node, ast.Name) and isinstance(node.ctx, ast.Load) and hasattr(builtins, node.id):
+                    self.assertIn(node.id, BUILTINS, name)
+
+    def test_methods_and_attributes(self):
+        trees = [ast.parse(text) for _, text in sources()]
+        nodes = [node for tree in trees for node in ast.walk(tree)]
+        own = {part.name for node in nodes if isinstance(node, ast.ClassDef) for part in node.body
+               if isinstance(part, ast.FunctionDef)}
+        stored = {node.attr for node in nodes if isinstance(node, ast.Attribute) and isinstance(node.ctx, ast.Store)}
+        called = {node.func.attr for node in nodes if isinstance(node, ast.Call)
+                  and isinstance(node.func, ast.Attribute)}
+        self.assertEqual(called - own - set(METHODS), set())
+        self.assertEqual(own & stored, set())
+        self.assertEqual(stored & set(METHODS), set())
+
+    def test_statements(self):
+        for name, text in sources():
+            for node in ast.walk(ast.parse(text)):
+                self.assertNotIsInstance(node, STATEMENTS, name)
+                if isinstance(node, (ast.FunctionDef, ast.ClassDef)):
+                    self.assertEqual(node.decorator_list, [], name)
 
     def test_no_circle_of_imports(self):
         ahead = {"callersrights." + name[:-3]: imported(text) for name, text in sources()}
