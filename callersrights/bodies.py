@@ -71,7 +71,12 @@ def copy_body(body):
 
 def copy_step(step):
     """A copy of a step that has no list in common with it."""
-    return tuple([copy_body(part) if isinstance(part, list) else part for part in step])
+    return with_inner(step, copy_step)
+
+
+def with_inner(step, change):
+    """A copy of a step in whose bodies stands, for each step of them, what a function makes of it."""
+    return tuple([[change(inner) for inner in part] if isinstance(part, list) else part for part in step])
 
 
 def inner_bodies(step):

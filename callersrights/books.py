@@ -4,7 +4,7 @@ from callersrights.bodies import is_tuple_of
 from callersrights.errors import InvalidItem, InvalidList
 from callersrights.flow import Flow
 from callersrights.programs import Program, is_ordered, kept_step, need_known, need_place, need_program
-from callersrights.search import search_runs
+from callersrights.search import run_up_to, search_runs
 
 
 class Meeting(Flow):
@@ -104,13 +104,14 @@ def needless(program, place):
     for owner, _ in program.owners():
         # If a run fails, it does so, too, where only an owner met by the last check lacks only this right.
         book = book_without(program, owner, right)
-        run = first_fail_at(with_book(program, book), place)
-        if run is not None and (best is None or len(run) < len(best[1])):
-            best = (book, run)
-    return best
+        event = first_fail_at(with_book(program, book), place)
+        if event is not None and (best is None or event.total() < best[1].total()):
+            best = (book, event)
+    # Only the shortest run is spelled out: those with other books may be far too long for that.
+    return None if best is None else (best[0], run_up_to(best[1]))
 
 
 def first_fail_at(program, place):
-    """A run with as few events as possible that ends with a fail at a place, or None if there is none."""
+    """The fail at a place at which runs arrive with the fewest events, or None if there is none."""
     search = search_runs(Flow(program))
-    return search.nearest(lambda event: event.word == "fail" and event.place() == place)
+    return search.nearest_event(lambda event: event.word == "fail" and event.place() == place)

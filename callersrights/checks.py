@@ -21,7 +21,17 @@ def outcome(program, place):
 def first_fail(program):
     """A run with as few events as possible that ends with a fail, or None if there is none."""
     need_program(program)
-    return search_runs(Flow(program)).nearest(lambda event: event.word == "fail")
+    return search_runs(Flow(program)).nearest(is_fail)
+
+
+def never_fails(program):
+    """Whether no run of a program ends with a fail."""
+    return not search_runs(Flow(program)).has(is_fail)
+
+
+def is_fail(event):
+    """Whether an event is a fail."""
+    return event.word == "fail"
 
 
 def last_end(program):

@@ -1,6 +1,6 @@
 """Marks and tail calls: which marks matter, and what tail calls make a walk forget."""
 
-from callersrights.bodies import inner_body, is_marking
+from callersrights.bodies import inner_body, is_marking, with_inner
 from callersrights.errors import InvalidProgram
 from callersrights.flow import Flow
 from callersrights.programs import Program, need_place, need_program, places, step_at
@@ -52,7 +52,7 @@ def first_unlike(program, other):
     need_program(program)
     if not isinstance(other, Program) or not is_alike(program, other):
         raise InvalidProgram(other)
-    return first_parting(program, other)
+    return search_runs(Pairing(program, other)).nearest(is_parting)
 
 
 def is_alike(program, other):
@@ -74,12 +74,12 @@ def plain_step(step):
     """A copy of a step in which no block is marked."""
     if step[0] == "block":
         return ("block", False, plain_body(step[2]))
-    return tuple([plain_body(part) if isinstance(part, list) else part for part in step])
+    return with_inner(step, plain_step)
 
 
-def first_parting(program, other):
-    """A run with as few events as possible of one of two programs that are alike, and not of the other, or None."""
-    return search_runs(Pairing(program, other)).nearest(is_parting)
+def has_same_runs(program, other):
+    """Whether two programs that are alike have the same runs."""
+    return not search_runs(Pairing(program, other)).has(is_parting)
 
 
 def is_parting(event):
@@ -91,7 +91,7 @@ def spare_marks(program):
     """The list of the places of all marked blocks that, each alone, need no mark for the same runs."""
     need_program(program)
     marked = [place for place in places(program, "block") if is_marking(step_at(program, place))]
-    return [place for place in marked if first_parting(program, without_mark(program, place)) is None]
+    return [place for place in marked if has_same_runs(program, without_mark(program, place))]
 
 
 def without_mark(program, place):

@@ -55,6 +55,10 @@ class Event:
         """The event as it stands in runs."""
         return (self.word, self.place())
 
+    def total(self):
+        """The number of the events of a run, as short as can be, that ends with this one."""
+        return self.kind.arrived + self.length
+
 
 class Search:
     """All kinds of frames that runs from a frame of some kind bring, and the shortest ways to what they do.
@@ -149,20 +153,25 @@ class Search:
         """All events at steps that runs have, each once for each kind of frames."""
         return [event for kind in self.kinds.values() for event in kind.reached.values()]
 
-    def nearest(self, wanted):
-        """A run with as few events as possible whose last one is wanted, or None if there is none.
+    def has(self, wanted):
+        """Whether runs have an event that is wanted; `wanted` is a function that tells this of an event.
 
-        `wanted` is a function that tells this of an event.
+        A run up to this event is not spelled out: it may be far too long for that.
         """
+        return any([wanted(event) for event in self.all_events()])
+
+    def nearest_event(self, wanted):
+        """The event wanted at which runs arrive with the fewest events, or None if there is none."""
         best = None
-        fewest = 0
         for event in self.all_events():
-            if wanted(event):
-                length = event.kind.arrived + event.length
-                if best is None or length < fewest:
-                    best = event
-                    fewest = length
-        return None if best is None else run_up_to(best)
+            if wanted(event) and (best is None or event.total() < best.total()):
+                best = event
+        return best
+
+    def nearest(self, wanted):
+        """A run with as few events as possible whose last one is wanted, or None if there is none."""
+        event = self.nearest_event(wanted)
+        return None if event is None else run_up_to(event)
 
     def whole_run(self):
         """A run with as few events as possible behind which the first frame has ended, or None."""

@@ -76,6 +76,24 @@ class Both(Rights):
         return right in standing[0] and right in standing[1]
 
 
+class Missed(Rights):
+    """Frames that are handed rights, the owners that a walk would meet below, and those that it would not."""
+
+    def __init__(self, program):
+        Rights.__init__(self, program)
+        self.first = (self.first, frozenset(), frozenset())
+
+    def standing(self, name, path, handed):
+        rights, met, missed = handed
+        own = frozenset([self.owner_of[name]])
+        if self.reference.marked_at(name, path):
+            return (Rights.standing(self, name, path, rights), own, met | missed)
+        return (Rights.standing(self, name, path, rights), met | own, missed)
+
+    def passes(self, standing, right):
+        return right in standing[0]
+
+
 class Fixpoint:
     """The fewest events until frames end (`ends`), until they come (`comes`), and until something happens.
 

@@ -3,7 +3,9 @@
 import random
 import unittest
 
-from callersrights.errors import InvalidItem, RightsError, UnknownName
+from callersrights.errors import InvalidItem, InvalidName, RightsError, TakenName, UnknownName
+from callersrights.library import Library
+from callersrights.live import Live
 from callersrights.programs import Program
 
 STORE_FUNCTIONS = [
@@ -59,6 +61,7 @@ def odd_values():
         (), (None,), ("f",), ("f", 0), ("f", ()), ("f", [0]), ["f", (0,)], ("f", (True,)), ("f", (-1,)), (1, (0,)),
         [None], [[]], [()], [True], [1], ["F"], [("back",)], [["back"]], {}, {"f": (0,)}, {0: []}, {"read": 1},
         store(), [store()], (store(),), RightsError("no"), InvalidItem([1]), [InvalidItem(2)],
+        Live(store()), Library(store()), [Live(store())], (Library(store()), (0,)),
         deep_list(30), deep_tuple(30), deep_dict(30),
     ]
 
@@ -242,12 +245,13 @@ def size(run):
 class Case(unittest.TestCase):
     """A test that knows how the package refuses."""
 
-    def refuses(self, error, wrong, called, *arguments):
+    def refuses(self, error, wrong, called, *arguments, **named):
         """The very argument or item is in the field of just this error."""
         with self.assertRaises(error) as caught:
-            called(*arguments)
+            called(*arguments, **named)
         self.assertIs(type(caught.exception), error)
-        self.assertIs(caught.exception.name if error is UnknownName else caught.exception.value, wrong)
+        by_name = error in (UnknownName, TakenName, InvalidName)
+        self.assertIs(caught.exception.name if by_name else caught.exception.value, wrong)
 
     def beside_brute(self, run, brute, depth):
         """A run, or None, is as long as a shortest one found by brute force, which looks at runs of up to `depth`."""

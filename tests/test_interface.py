@@ -1,4 +1,4 @@
-"""Promise [1] and the document's section on the interface, as far as it has landed."""
+"""Promise [1] and the document's section on the interface, for all of the package."""
 
 import importlib
 import inspect
@@ -22,12 +22,31 @@ FUNCTIONS = {
     "marks": {
         "first_unlike": ["program", "other"], "spare_marks": ["program"], "forgotten": ["program", "place"],
     },
+    "strangers": {
+        "with_stranger": ["program", "rights", "opened", "first"], "passes_over": ["program", "owner", "place"],
+    },
+    "texts": {"text_of": ["program"], "read_program": ["text"]},
 }
 CLASSES = {
     "programs": {
         "Program": {
             "__init__": ["self", "rights", "owners", "functions"],
             "rights": ["self"], "owners": ["self"], "functions": ["self"], "__eq__": ["self", "other"],
+        },
+    },
+    "live": {
+        "Live": {
+            "__init__": ["self", "program"], "grant": ["self", "owner", "right"], "revoke": ["self", "owner", "right"],
+            "rewrite": ["self", "name", "body"], "shown": ["self"], "outcome": ["self", "place"],
+            "first_fail": ["self"], "back": ["self"], "log": ["self"], "copy": ["self"], "__eq__": ["self", "other"],
+        },
+    },
+    "library": {
+        "Library": {
+            "__init__": ["self", "program"], "put": ["self", "name", "book"], "drop": ["self", "name"],
+            "change": ["self", "name", "book"], "book_of": ["self", "name"], "names": ["self"], "quiet": ["self"],
+            "alike": ["self", "book"], "back": ["self"], "log": ["self"], "copy": ["self"], "__len__": ["self"],
+            "__contains__": ["self", "name"], "__iter__": ["self"], "__eq__": ["self", "other"],
         },
     },
     "errors": {
@@ -54,6 +73,11 @@ class TestInterface(unittest.TestCase):
                 self.assertTrue(inspect.isfunction(made))
                 self.assertEqual(made.__module__, "callersrights." + file)
                 self.assertEqual(list(inspect.signature(made).parameters), parameters)
+
+    def test_what_is_passed_by_name_only(self):
+        parameter = inspect.signature(module("strangers").with_stranger).parameters["first"]
+        self.assertIs(parameter.kind, inspect.Parameter.KEYWORD_ONLY)
+        self.assertIs(parameter.default, False)
 
     def test_classes(self):
         for file, classes in CLASSES.items():

@@ -1,15 +1,16 @@
-"""Promises [1], [2] and [5] for the standings, checks, books and marks: what holds for all their functions."""
+"""Promises [1], [2] and [5] for the functions from the standings to the texts: what holds for all of them."""
 
 import unittest
 
-from callersrights import books, checks, marks, standings
-from callersrights.errors import InvalidItem, InvalidList, InvalidPlace, InvalidProgram, UnknownName
+from callersrights import books, checks, marks, standings, strangers, texts
+from callersrights.errors import InvalidItem, InvalidList, InvalidPlace, InvalidProgram, InvalidText, UnknownName
 from callersrights.programs import Program
 from samples import Case, lists_in, odd_values, store
 
 ERRORS = {
     "program": InvalidProgram, "other": InvalidProgram, "place": InvalidPlace, "standing": InvalidList,
     "handed": InvalidList, "name": UnknownName, "owner": UnknownName, "right": UnknownName, "book": InvalidList,
+    "rights": InvalidList, "opened": InvalidList, "text": InvalidText,
 }
 
 
@@ -53,6 +54,11 @@ def calls():
         (marks.spare_marks, {"program": tails()}),
         (marks.forgotten, {"program": tails(), "place": check}),
         (marks.forgotten, {"program": tails(), "place": ("main", (1, 0))}),
+        (strangers.with_stranger, {"program": tails(), "rights": ["write"], "opened": ["log", "save"]}),
+        (strangers.passes_over, {"program": tails(), "owner": "app", "place": ("save", (1, 0))}),
+        (strangers.passes_over, {"program": tails(), "owner": "sys", "place": ("main", (1, 0))}),
+        (texts.text_of, {"program": tails()}),
+        (texts.read_program, {"text": texts.text_of(tails())}),
     ]
 
 
@@ -79,7 +85,7 @@ class TestCalls(Case):
 
     def test_there_is_something_to_tell(self):
         told = [called(**arguments) for called, arguments in calls()]
-        self.assertGreater(sum(1 for value in told if value not in (None, [])), 18)
+        self.assertGreater(sum(1 for value in told if value not in (None, [])), 22)
 
     def test_kinds_of_values(self):
         for called, arguments in calls():
@@ -134,6 +140,8 @@ class TestRefusals(Case):
         if name in ("program", "other") and isinstance(value, Program):
             return True
         if name in ("standing", "handed") and value == [] and isinstance(value, list):
+            return True
+        if name in ("rights", "opened") and isinstance(value, list):
             return True
         if name == "right" and isinstance(value, str) and value == "read":
             return True

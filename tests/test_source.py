@@ -10,7 +10,7 @@ ROOT = os.path.join(os.path.dirname(os.path.abspath(__file__)), "..", "callersri
 # L8, L22 and L25, without what this package has no need of.
 BUILTINS = [
     "len", "range", "enumerate", "zip", "min", "max", "sum", "abs", "sorted", "reversed", "int", "str", "bool", "list",
-    "tuple", "dict", "set", "isinstance", "repr", "any", "all", "ValueError",
+    "tuple", "dict", "set", "isinstance", "iter", "repr", "any", "all", "ValueError",
 ]
 METHODS = [
     "append", "clear", "copy", "count", "endswith", "extend", "find", "get", "index", "insert", "items", "join", "keys",
@@ -18,7 +18,7 @@ METHODS = [
 ]
 DOUBLE = ["__init__", "__eq__", "__len__", "__iter__", "__contains__"]
 STATEMENTS = (
-    ast.Global, ast.Try, ast.With, ast.AsyncFunctionDef, ast.Delete, ast.GeneratorExp, ast.Yield, ast.YieldFrom,
+    ast.Global, ast.With, ast.AsyncFunctionDef, ast.Delete, ast.GeneratorExp, ast.Yield, ast.YieldFrom,
     ast.AnnAssign, ast.Set, ast.JoinedStr, ast.Starred, ast.NamedExpr, ast.Div, ast.Mod, ast.Pow, ast.Match,
 )
 
@@ -99,6 +99,31 @@ class TestSource(unittest.TestCase):
                 self.assertNotIsInstance(node, STATEMENTS, name)
                 if isinstance(node, (ast.FunctionDef, ast.ClassDef)):
                     self.assertEqual(node.decorator_list, [], name)
+
+    def test_handlers(self):
+        own = {node.name for name, text in sources() if name == "errors.py" for node in ast.walk(ast.parse(text))
+               if isinstance(node, ast.ClassDef)}
+        for name, text in sources():
+            for node in ast.walk(ast.parse(text)):
+                if isinstance(node, ast.Try):
+                    self.assertEqual((node.finalbody, node.orelse), ([], []), name)
+                    caught = [part.id for handler in node.handlers for part in ast.walk(handler.type)
+                              if isinstance(part, ast.Name)]
+                    self.assertTrue(caught and set(caught) <= own, (name, caught))
+
+    def test_methods_of_classes_that_are_iterated_over(self):
+        bodies = {"__iter__": "return iter(self._names)", "__len__": "return len(self._names)"}
+        for name, text in sources():
+            for node in ast.walk(ast.parse(text)):
+                if isinstance(node, ast.FunctionDef) and node.name in bodies:
+                    self.assertEqual([ast.unparse(part) for part in node.body], [bodies[node.name]], name)
+
+    def test_imports_are_not_renamed(self):
+        for name, text in sources():
+            for node in ast.walk(ast.parse(text)):
+                if isinstance(node, ast.alias):
+                    self.assertIsNone(node.asname, name)
+                    self.assertNotEqual(node.name, "*", name)
 
     def test_no_circle_of_imports(self):
         ahead = {"callersrights." + name[:-3]: imported(text) for name, text in sources()}
