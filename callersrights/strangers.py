@@ -1,4 +1,4 @@
-"""Strangers: owners that call what is open to them, and checks whose walks do not get to an owner's frames."""
+"""Strangers: owners that call some functions, and checks whose walks do not get to an owner's frames."""
 
 from callersrights.bodies import with_inner
 from callersrights.errors import InvalidItem, InvalidList, InvalidNumber, InvalidProgram
@@ -38,7 +38,7 @@ class Passing(Flow):
 
 
 def with_stranger(program, rights, opened, *, first=False):
-    """The program with a stranger that has some rights and calls the functions that are open to it."""
+    """The program with a stranger that has some rights and calls some functions, perhaps ahead of all others."""
     need_room(program)
     need_some(rights, program.rights())
     need_some(opened, names_of(program.functions()))
